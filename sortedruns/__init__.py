@@ -1,0 +1,1 @@
+"""Rows by key in sorted runs, with snapshots."""
