@@ -8,7 +8,10 @@ MERGE = 4
 ADVISE = 5
 SNAP = 6
 CLOSE = 7
-HELD = 12
+GET = 8
+SCAN = 9
+RUNS = 10
+RUN = 11
 
 # By a call's number: how many whole numbers it has, and how many lists behind them.
 SHAPES = (

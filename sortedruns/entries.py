@@ -52,6 +52,10 @@ def without_oldest_drops(history):
     return history[:end]
 
 
+def count_drops(run):
+    return len([entry for entry in run if entry.is_drop()])
+
+
 def smallest_pair(runs):
     best = 0
     for first in range(1, len(runs) - 1):

@@ -97,6 +97,30 @@ def read_place(reader):
     raise WrongForm()
 
 
+def literal_of(value, kind):
+    if kind.letter == TEXT:
+        return text_literal(value)
+    return [ord(sign) for sign in str(value)]
+
+
+def text_literal(value):
+    literal = [QUOTE]
+    for byte in value:
+        literal.extend(signs_of_byte(byte))
+    literal.append(QUOTE)
+    return literal
+
+
+def signs_of_byte(byte):
+    if stands_as_itself(byte):
+        return [byte]
+    return [BACKSLASH, sign_of_place(byte // 16), sign_of_place(byte % 16)]
+
+
+def sign_of_place(value):
+    return ZERO + value if value < 10 else SMALL_A + value - 10
+
+
 def read_leaf_kind(reader):
     letter = reader.take()
     if letter == BIT:

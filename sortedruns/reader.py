@@ -1,4 +1,4 @@
-"""Going through a list of whole numbers from its beginning to its end."""
+"""Going through a list of whole numbers from its beginning to its end; lists with their length in front."""
 
 # Stands for the sign behind the last one; it is like no sign of any form.
 NO_SIGN = -1
@@ -6,6 +6,10 @@ NO_SIGN = -1
 
 class WrongForm(Exception):
     pass
+
+
+def counted(numbers):
+    return [len(numbers)] + numbers
 
 
 class Reader:

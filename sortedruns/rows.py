@@ -1,10 +1,10 @@
-"""Rows: reading one from its text, and keys from rows and from lists.
+"""Rows: reading one from its text, and keys from rows, from lists and as lists.
 
 A group's value is a dict from the names of its fields to their occurrences.
 """
 
-from sortedruns.literals import LeafKind, read_literal
-from sortedruns.reader import Reader, WrongForm
+from sortedruns.literals import LeafKind, literal_of, read_literal
+from sortedruns.reader import Reader, WrongForm, counted
 from sortedruns.signs import ANY_NUMBER, BY_KEY, CHOICE_END, CHOICE_START, COLON, COMMA
 from sortedruns.signs import JUST_ONE, RECORD_END, RECORD_START, SEMICOLON
 
@@ -91,3 +91,10 @@ def read_key(numbers, key_columns):
         literal.expect_end()
     reader.expect_end()
     return tuple(key)
+
+
+def key_list(key, key_columns):
+    numbers = []
+    for place in range(len(key_columns)):
+        numbers.extend(counted(literal_of(key[place], key_columns[place].kind)))
+    return numbers

@@ -1,16 +1,20 @@
 """The table: one object, and the calls on it."""
 
-from sortedruns.calls import ADVISE, CLOSE, DROP, FLUSH, HELD, MERGE, PUT, SCHEMA, SNAP, read_call
-from sortedruns.entries import Entry, merged_run, pair_size, smallest_pair, sorted_run
-from sortedruns.reader import Reader, WrongForm
-from sortedruns.refusals import NO_COLUMNS, NO_FORM, NO_KEY, NO_ROOM, NO_ROOM_FOR_RUN
+from sortedruns.calls import ADVISE, CLOSE, DROP, FLUSH, GET, MERGE, PUT, RUN, RUNS, SCAN, SCHEMA, SNAP, read_call
+from sortedruns.entries import Entry, count_drops, merged_run, pair_size, smallest_pair, sorted_run
+from sortedruns.reader import Reader, WrongForm, counted
+from sortedruns.reading import find_entry, meets, rows_between
+from sortedruns.refusals import NO_COLUMNS, NO_FORM, NO_KEY, NO_LIMIT, NO_ROOM, NO_ROOM_FOR_RUN
 from sortedruns.refusals import NO_RUNS, NO_SCHEMA, NO_SNAPSHOT
-from sortedruns.rows import key_of, read_key, read_row
+from sortedruns.rows import key_list, key_of, read_key, read_row
 from sortedruns.schemas import can_be_key, columns_of, read_schema
 
 MOST_ENTRIES = 200
 MOST_RUNS = 12
 MOST_SNAPSHOTS = 8
+
+# The point that is no snapshot's number.
+NOW = -1
 
 
 # Each of its calls gives back the answer as a list: a refusal alone, or all that is answered.
@@ -104,6 +108,59 @@ class Table:
         self.snapshots.pop(snapshot)
         return [0]
 
+    def can_read(self, point):
+        return point == NOW or point in self.snapshots
+
+    def last_read(self, point):
+        return self.last_entry if point == NOW else self.snapshots[point]
+
+    def get(self, point, numbers):
+        if not self.can_read(point):
+            return [NO_SNAPSHOT]
+        try:
+            key = read_key(numbers, self.key_columns)
+        except WrongForm:
+            return [NO_KEY]
+        found = find_entry(self.fresh, self.run_list, key, self.last_read(point))
+        if found.entry is None or found.entry.is_drop():
+            return [found.opened, 0]
+        return [found.opened, 1] + counted(found.entry.row)
+
+    def scan(self, point, limit, low_numbers, high_numbers):
+        if not self.can_read(point):
+            return [NO_SNAPSHOT]
+        if limit < 0:
+            return [NO_LIMIT]
+        try:
+            low = read_key(low_numbers, self.key_columns)
+            high = read_key(high_numbers, self.key_columns)
+        except WrongForm:
+            return [NO_KEY]
+        opened = [run for run in self.run_list if meets(run, low, high)]
+        entries = list(self.fresh)
+        for run in opened:
+            entries.extend(run)
+        rows = rows_between(entries, low, high, self.last_read(point))[:limit]
+        answer = [len(opened), len(rows)]
+        for row in rows:
+            answer.extend(counted(row))
+        return answer
+
+    def runs(self):
+        answer = [len(self.run_list)]
+        for run in self.run_list:
+            answer.extend([len(run), count_drops(run)])
+        return answer
+
+    def run(self, number):
+        if not 0 <= number < len(self.run_list):
+            return [NO_RUNS]
+        answer = [len(self.run_list[number])]
+        for entry in self.run_list[number]:
+            answer.extend(key_list(entry.key, self.key_columns))
+            answer.extend([entry.number, 0 if entry.is_drop() else 1])
+        return answer
+
     def held(self):
         return [len(self.fresh), self.count_entries()]
 
@@ -132,6 +189,12 @@ def answer_call(table, call):
         return table.merge(call.numbers[0], call.numbers[1])
     if call.number == CLOSE:
         return table.close(call.numbers[0])
+    if call.number == GET:
+        return table.get(call.numbers[0], call.lists[0])
+    if call.number == SCAN:
+        return table.scan(call.numbers[0], call.numbers[1], call.lists[0], call.lists[1])
+    if call.number == RUN:
+        return table.run(call.numbers[0])
     return answer_bare_call(table, call.number)
 
 
@@ -142,6 +205,7 @@ def answer_bare_call(table, number):
         return table.advise()
     if number == SNAP:
         return table.snap()
-    if number == HELD:
-        return table.held()
-    raise NotImplementedError(f"call {number} is not built yet")
+    if number == RUNS:
+        return table.runs()
+    # No other call is left: each number that is handed in is one of a call.
+    return table.held()

@@ -6,6 +6,7 @@ NO_FORM = [-1]
 NO_SCHEMA = [-2]
 NO_SNAPSHOT = [-3]
 NO_COLUMNS = [-4]
+NO_LIMIT = [-4]
 NO_ROOM = [-5]
 NO_ROOM_FOR_RUN = [-6]
 NO_RUNS = [-7]
@@ -16,6 +17,7 @@ ADVISE = [5]
 SNAP = [6]
 RUNS = [10]
 HELD = [12]
+NOW = -1
 
 EXAMPLE = (
     "{1id!i32;2name?t20;3tags*t8;4pos?{1x!i16=0;2y!i16};"
@@ -51,8 +53,12 @@ def put(text):
     return [1] + counted(text_bytes(text))
 
 
+def pair_text(k, v=0):
+    return "{k:%d;v:%d}" % (k, v)
+
+
 def pair(k, v=0):
-    return put("{k:%d;v:%d}" % (k, v))
+    return put(pair_text(k, v))
 
 
 def drop_list(numbers):
@@ -71,16 +77,47 @@ def close(snapshot):
     return [7, snapshot]
 
 
+def get_list(point, numbers):
+    return [8, point] + counted(numbers)
+
+
 def get(point, *literals):
-    return [8, point] + counted(key_list(*literals))
+    return get_list(point, key_list(*literals))
 
 
 def scan(point, limit, low, high):
     return [9, point, limit] + counted(low) + counted(high)
 
 
+def scan_pairs(point, limit, low, high):
+    return scan(point, limit, key_list(str(low)), key_list(str(high)))
+
+
 def run(number):
     return [11, number]
+
+
+def no_row(opened):
+    return [opened, 0]
+
+
+def one_row(opened, text):
+    return [opened, 1] + counted(text_bytes(text))
+
+
+def many_rows(opened, *texts):
+    answer = [opened, len(texts)]
+    for text in texts:
+        answer += counted(text_bytes(text))
+    return answer
+
+
+def entry_list(*entries):
+    # Of each entry: the literals of its key, its number, and 1 if it has a row.
+    answer = [len(entries)]
+    for literals, number, has_row in entries:
+        answer += key_list(*literals) + [number, has_row]
+    return answer
 
 
 def ask(*calls):
